@@ -1,0 +1,1 @@
+"""Lydite: telling functions apart. Import from the modules of this package."""

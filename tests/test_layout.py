@@ -1,0 +1,54 @@
+"""The interface stands in the files that the document names, and the files of
+the package keep the limits of the language rules that can be counted."""
+
+import ast
+import importlib
+import inspect
+import pathlib
+import unittest
+
+PACKAGE = pathlib.Path(__file__).resolve().parent.parent / "lydite"
+
+INTERFACE = {
+    "terms": {
+        "is_term": ["value"], "abstraction": ["body"],
+        "application": ["function", "argument"], "free": ["term"],
+        "lift": ["term", "count"], "put": ["term", "value"],
+    },
+    "places": {
+        "places": ["term"], "part": ["term", "place"],
+        "replace": ["term", "place", "value"], "comes_before": ["first", "second"],
+    },
+}
+
+
+class Interface(unittest.TestCase):
+    def test_functions_stand_in_their_files_with_their_arguments(self):
+        for file, functions in INTERFACE.items():
+            module = importlib.import_module(f"lydite.{file}")
+            for name, arguments in functions.items():
+                function = getattr(module, name)
+                self.assertEqual(function.__module__, f"lydite.{file}")
+                self.assertEqual(list(inspect.signature(function).parameters), arguments)
+
+
+class Files(unittest.TestCase):
+    def test_the_package_holds_only_python_files(self):
+        for path in PACKAGE.rglob("*"):
+            if "__pycache__" not in path.parts:
+                self.assertTrue(path.is_dir() or path.suffix == ".py", path)
+
+    def test_sizes_and_characters(self):
+        for path in PACKAGE.rglob("*.py"):
+            text = path.read_bytes().decode("ascii")
+            self.assertTrue(all(c == "\n" or " " <= c <= "~" for c in text), path)
+            lines = text.splitlines()
+            self.assertLessEqual(len(lines), 399, path)
+            self.assertLessEqual(max(map(len, lines), default=0), 120, path)
+            for node in ast.walk(ast.parse(text)):
+                if isinstance(node, ast.FunctionDef):
+                    self.assertLessEqual(node.end_lineno - node.lineno + 1, 40, node.name)
+
+
+if __name__ == "__main__":
+    unittest.main()
