@@ -124,3 +124,19 @@ def put(term, value):
             # Hundreds of copies of a long value are not worth writing out.
             check_size(len(nodes))
     return checked(tuple(nodes))
+
+
+def put_origins(term, value):
+    """Return where the nodes of put(term, value) come from.
+
+    The list has, for each of these nodes, the index of the node of
+    term + value that it is a copy of.
+    """
+    of_value = list(range(len(term), len(term) + len(value)))
+    found = []
+    for at, depth in enumerate(depths(term)):
+        if term[at] == depth:
+            found.extend(of_value)
+        else:
+            found.append(at)
+    return found

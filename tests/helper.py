@@ -1,9 +1,11 @@
 """What several tests share: small terms, long terms, and a slow second opinion.
 
 The second opinion works on trees, nested tuples such as ("app", ("lam", 0), 3),
-and follows the words of the document by functions that call themselves.
+and follows the words of the document by functions that call themselves. In a
+marked tree each abstraction has a word of its own: "lam0", "lam1", ....
 """
 
+import random
 import sys
 
 
@@ -30,11 +32,28 @@ def flat(tree):
     return (tree[0],) + tuple(node for part in tree[1:] for node in flat(part))
 
 
+def is_lam(tree):
+    return not isinstance(tree, int) and tree[0].startswith("lam")
+
+
+def tree_of(term):
+    """Return the tree of a term."""
+    def read(at):
+        if isinstance(term[at], int):
+            return term[at], at + 1
+        found, at, many = [term[at]], at + 1, 1 if term[at] == "lam" else 2
+        for _ in range(many):
+            part, at = read(at)
+            found.append(part)
+        return tuple(found), at
+    return read(0)[0]
+
+
 def mapped(tree, change, depth=0):
     """Return the tree with change(n, depth) in place of each variable n."""
     if isinstance(tree, int):
         return change(tree, depth)
-    inner = depth + 1 if tree[0] == "lam" else depth
+    inner = depth + 1 if is_lam(tree) else depth
     return (tree[0],) + tuple(mapped(part, change, inner) for part in tree[1:])
 
 
@@ -42,7 +61,7 @@ def free_of(tree, depth=0):
     """Return the set of the free variables of a tree."""
     if isinstance(tree, int):
         return {tree - depth} if tree >= depth else set()
-    inner = depth + 1 if tree[0] == "lam" else depth
+    inner = depth + 1 if is_lam(tree) else depth
     return set().union(*[free_of(part, inner) for part in tree[1:]])
 
 
@@ -64,7 +83,7 @@ def parts(tree, place=""):
     """Return the pairs of a place and the part there, in order."""
     found = [(place, tree)]
     if not isinstance(tree, int):
-        letters = "b" if tree[0] == "lam" else "fa"
+        letters = "b" if is_lam(tree) else "fa"
         for letter, part in zip(letters, tree[1:]):
             found.extend(parts(part, place + letter))
     return found
@@ -76,6 +95,86 @@ def with_part(tree, place, value):
         return value
     at = 2 if place[0] == "a" else 1
     return tree[:at] + (with_part(tree[at], place[1:], value),) + tree[at + 1:]
+
+
+def part_at(tree, place):
+    for letter in place:
+        tree = tree[2 if letter == "a" else 1]
+    return tree
+
+
+def redexes_of(tree):
+    """Return the list of the redexes of a tree, marked or not, in order."""
+    return [
+        place for place, part in parts(tree)
+        if not isinstance(part, int) and part[0] == "app" and is_lam(part[1])
+    ]
+
+
+def stepped(tree, place):
+    """Return where the step at a place of a tree, marked or not, leads."""
+    _, function, argument = part_at(tree, place)
+    return with_part(tree, place, value_put(function[1], argument))
+
+
+def marked(tree):
+    """Return the tree with different marks."""
+    count = [0]
+
+    def mark(part):
+        if isinstance(part, int):
+            return part
+        word = part[0]
+        if word == "lam":
+            word = f"lam{count[0]}"
+            count[0] += 1
+        return (word,) + tuple(mark(inner) for inner in part[1:])
+    return mark(tree)
+
+
+def mark_at(tree, place):
+    """Return the mark of the abstraction of a redex of a marked tree."""
+    return part_at(tree, place)[1][0]
+
+
+def with_mark(tree, mark):
+    """Return the redexes of a marked tree whose abstraction has the mark."""
+    return [place for place in redexes_of(tree) if mark_at(tree, place) == mark]
+
+
+def random_tree(source, size, free_count, depth=0):
+    """Return a tree of a size, with many redexes, by a source of random numbers."""
+    if size == 1:
+        # Rather a variable of the innermost abstractions than another one.
+        if depth > 0 and source.random() < 0.7:
+            return source.randrange(min(depth, 2))
+        return source.randrange(max(depth + free_count, 1))
+    if size == 2 or source.random() < 0.3:
+        return ("lam", random_tree(source, size - 1, free_count, depth + 1))
+    if size >= 4 and source.random() < 0.5:
+        left = source.randint(1, size - 3)
+        body = random_tree(source, left, free_count, depth + 1)
+        return ("app", ("lam", body), random_tree(source, size - 2 - left, free_count, depth))
+    left = source.randint(1, size - 2)
+    function = random_tree(source, left, free_count, depth)
+    return ("app", function, random_tree(source, size - 1 - left, free_count, depth))
+
+
+def random_trees(seed, count, size, free_count=2):
+    """Return trees of up to a size, always the same ones for the same seed."""
+    source = random.Random(seed)
+    return [random_tree(source, source.randint(3, size), free_count) for _ in range(count)]
+
+
+def random_road(source, tree, most):
+    """Return a road of at most so many places from a tree, and its end."""
+    road = []
+    while len(road) < most and redexes_of(tree):
+        road.append(source.choice(redexes_of(tree)))
+        tree = stepped(tree, road[-1])
+        if len(flat(tree)) > 300:
+            break
+    return road, tree
 
 
 def lam_chain(size, variable=0):

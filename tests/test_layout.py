@@ -19,6 +19,19 @@ INTERFACE = {
         "places": ["term"], "part": ["term", "place"],
         "replace": ["term", "place", "value"], "comes_before": ["first", "second"],
     },
+    "notation": {"parse": ["text", "names"], "show": ["term", "names"]},
+    "roads": {
+        "redexes": ["term"], "step": ["term", "place"], "follow": ["term", "road"],
+        "passed": ["term", "road"],
+    },
+    "meeting": {
+        "develop": ["term", "times"], "way": ["term"], "meet": ["term", "first", "second"],
+    },
+    "order": {
+        "residuals": ["term", "place", "other"], "is_standard": ["term", "road"],
+        "standard": ["term", "road"], "normal": ["term", "steps"],
+        "first_steps": ["term", "count"],
+    },
 }
 
 
