@@ -124,19 +124,6 @@ def standard(term, road):
     return found
 
 
-def normal(term, steps):
-    """Return the normal term and the number of steps. Raise TooLarge, OutOfSteps."""
-    count = 0
-    at = first_redex(term, 0)
-    while at is not None:
-        if count >= steps:
-            raise OutOfSteps("the term is not normal after so many steps")
-        term = stepped(term, at)
-        count += 1
-        at = next_redex(term, at)
-    return checked(term), count
-
-
 def next_redex(term, at):
     """Return the first redex of what the step at the first redex leads to.
 
@@ -144,6 +131,29 @@ def next_redex(term, at):
     one. Return None if there is none.
     """
     return first_redex(term, max(at - 1, 0))
+
+
+def repeated(term, steps, next_at, step_at):
+    """Return the last term of steps that go on as long as there is one to make.
+
+    next_at(term, at) returns the index of the next step behind one at an index
+    (0 at the beginning), or None; step_at(term, at) makes it. Return the pair
+    of the last term and the number of steps. Raise TooLarge, OutOfSteps.
+    """
+    count = 0
+    at = next_at(term, 0)
+    while at is not None:
+        if count >= steps:
+            raise OutOfSteps("there is a further step after so many steps")
+        term = step_at(term, at)
+        count += 1
+        at = next_at(term, at)
+    return checked(term), count
+
+
+def normal(term, steps):
+    """Return the normal term and the number of steps. Raise TooLarge, OutOfSteps."""
+    return repeated(term, steps, next_redex, stepped)
 
 
 def first_steps(term, count):

@@ -9,36 +9,48 @@ from lydite.errors import TooLarge
 MOST_NODES = 1000
 MOST_VARIABLE = 1000000
 
+# Kinds and combinations are tuples in prefix order, too: "to" stands in kinds.
+PART_COUNTS = {"lam": 1, "app": 2, "to": 2}
 
-def is_node(value):
-    """Return True if the value is a node of a term."""
-    if isinstance(value, str):
-        return value == "lam" or value == "app"
+
+def is_number(value, most):
+    """Return True if the value is an integer from 0 to the greatest one."""
     # True and False are ints for Python, but no integers for the document.
     if isinstance(value, bool) or not isinstance(value, int):
         return False
-    return 0 <= value <= MOST_VARIABLE
+    return 0 <= value <= most
+
+
+def is_node(value, words):
+    """Return True if the value is a variable or one of the words."""
+    if isinstance(value, str):
+        return value in words
+    return is_number(value, MOST_VARIABLE)
 
 
 def part_count(node):
     """Return how many terms follow a node as its parts."""
-    if node == "app":
-        return 2
-    if node == "lam":
-        return 1
-    return 0
+    return PART_COUNTS.get(node, 0)
 
 
-def is_term(value):
-    """Return True if the value is a term of at most MOST_NODES nodes."""
+def is_written(value, words):
+    """Return True if the value is a tuple of at most MOST_NODES nodes in order.
+
+    Each node is a variable or one of the words, followed by its parts.
+    """
     if not isinstance(value, tuple) or len(value) > MOST_NODES:
         return False
     missing = 1
     for node in value:
-        if missing == 0 or not is_node(node):
+        if missing == 0 or not is_node(node, words):
             return False
         missing += part_count(node) - 1
     return missing == 0
+
+
+def is_term(value):
+    """Return True if the value is a term of at most MOST_NODES nodes."""
+    return is_written(value, ("lam", "app"))
 
 
 def check_size(size):
@@ -109,6 +121,14 @@ def lifted_nodes(term, count):
 def lift(term, count):
     """Return the term lifted by a number. Raise TooLarge."""
     return checked(tuple(lifted_nodes(term, count)))
+
+
+def unlifted(term, count):
+    """Return the term that gives this one if it is lifted by a number, or None."""
+    for node, depth in zip(term, depths(term)):
+        if stands_free(node, depth) and node - depth < count:
+            return None
+    return tuple(lifted_nodes(term, -count))
 
 
 def put(term, value):

@@ -117,6 +117,31 @@ def stepped(tree, place):
     return with_part(tree, place, value_put(function[1], argument))
 
 
+def is_needless(part):
+    """Return True if a tree is a needless abstraction."""
+    if isinstance(part, int) or part[0] != "lam" or isinstance(part[1], int):
+        return False
+    body = part[1]
+    return body[0] == "app" and body[2] == 0 and 0 not in free_of(body[1])
+
+
+def needless_of(tree):
+    """Return the list of the needless abstractions of a tree, in order."""
+    return [place for place, part in parts(tree) if is_needless(part)]
+
+
+def removed(tree, place):
+    """Return the tree without the needless abstraction at a place."""
+    return with_part(tree, place, value_put(part_at(tree, place)[1][1], "no value"))
+
+
+def shrunk(tree):
+    """Return the tree without its needless abstractions."""
+    while needless_of(tree):
+        tree = removed(tree, needless_of(tree)[0])
+    return tree
+
+
 def marked(tree):
     """Return the tree with different marks."""
     count = [0]
@@ -166,6 +191,32 @@ def random_trees(seed, count, size, free_count=2):
     return [random_tree(source, source.randint(3, size), free_count) for _ in range(count)]
 
 
+def random_normal(source, size, depth=0):
+    """Return a normal tree of about a size without free variables but the depth's."""
+    count = source.choice((0, 1, 1, 2, 3)) if depth > 0 else source.randint(1, 3)
+    depth += count
+    tree = source.randrange(depth)
+    many = min(source.choice((0, 1, 1, 2, 2, 3)), size // 2)
+    for _ in range(many):
+        tree = ("app", tree, random_normal(source, size // many - 2, depth))
+    for _ in range(count):
+        tree = ("lam", tree)
+    return tree
+
+
+def random_settled(source, size):
+    """Return a closed fully normal tree of about a size."""
+    return shrunk(random_normal(source, size))
+
+
+def settled_trees(size):
+    """Return all closed fully normal trees up to a size."""
+    return [
+        tree for tree in trees_up_to(size, range(size - 1))
+        if not free_of(tree) and not redexes_of(tree) and not needless_of(tree)
+    ]
+
+
 def random_road(source, tree, most):
     """Return a road of at most so many places from a tree, and its end."""
     road = []
@@ -175,6 +226,49 @@ def random_road(source, tree, most):
         if len(flat(tree)) > 300:
             break
     return road, tree
+
+
+class Spot:
+    """A position of a crowd of trees, by the words of point 28.
+
+    A term is a pair of a tree and the levels of its free variables.
+    """
+
+    def __init__(self, terms, first):
+        self.first = first
+        self.own, self.heads, self.rows = [], [], []
+        for tree, levels in terms:
+            own, row = 0, []
+            while is_lam(tree):
+                tree, levels, own = tree[1], [first + own] + levels, own + 1
+            while not isinstance(tree, int):
+                tree, row = tree[1], [(tree[2], levels)] + row
+            self.own.append(own)
+            self.heads.append(levels[tree])
+            self.rows.append(row)
+        self.count = max(self.own)
+        for own, row in zip(self.own, self.rows):
+            row.extend((0, [level]) for level in range(first + own, first + self.count))
+        self.forms = list(zip(self.heads, map(len, self.rows)))
+        self.turn = None
+        if len(set(self.forms)) == 1:
+            columns = enumerate(zip(*self.rows))
+            self.turn = next(i for i, column in columns if len(set(map(leveled, column))) > 1)
+
+
+def leveled(term):
+    """Return the tree with names of levels in place of its free variables."""
+    tree, levels = term
+    return mapped(tree, lambda n, depth: n if n < depth else f"level {levels[n - depth]}")
+
+
+def spots(trees):
+    """Return the positions on the way to the end of a crowd of trees."""
+    found = [Spot([(tree, []) for tree in trees], 0)]
+    while found[-1].turn is not None:
+        last = found[-1]
+        found.append(Spot([row[last.turn] for row in last.rows], last.first + last.count))
+    return found
 
 
 def lam_chain(size, variable=0):

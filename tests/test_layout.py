@@ -32,6 +32,20 @@ INTERFACE = {
         "standard": ["term", "road"], "normal": ["term", "steps"],
         "first_steps": ["term", "count"],
     },
+    "removal": {
+        "needless": ["term"], "remove": ["term", "place"], "follow_mixed": ["term", "road"],
+        "shrink": ["term"], "fully_normal": ["term", "steps"], "expand": ["term", "place"],
+    },
+    "heads": {
+        "head": ["term"], "with_head": ["count", "variable", "arguments"],
+        "head_normal": ["term", "steps"], "known": ["term"], "is_below": ["first", "second"],
+        "least_above": ["first", "second"],
+    },
+    "looks": {"stretched": ["term", "count"], "are_alike": ["terms"], "turns": ["crowd"]},
+    "apart": {
+        "projection": ["index", "count"], "tupler": ["count"], "applied": ["term", "arguments"],
+        "separate": ["crowd"], "tell": ["first", "second"], "choose": ["terms"],
+    },
 }
 
 
