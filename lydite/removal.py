@@ -1,9 +1,9 @@
 """Needless abstractions and their removal (points 21 and 22)."""
 
-from lydite.errors import NoPlace, NoRedex
+from lydite.errors import NoRedex
 from lydite.order import normal
 from lydite.places import end_of, places, start_of
-from lydite.roads import step
+from lydite.roads import index_at, step
 from lydite.terms import checked, lifted_nodes, unlifted
 
 
@@ -28,10 +28,7 @@ def needless(term):
 
 def remove(term, place):
     """Return the term without the needless abstraction at a place. Raise NoRedex."""
-    try:
-        at = start_of(term, place)
-    except NoPlace:
-        raise NoRedex("the string is no place of the term") from None
+    at = index_at(term, place)
     result = removed_part(term, at)
     if result is None:
         raise NoRedex("the place is no needless abstraction of the term")

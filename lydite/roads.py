@@ -26,12 +26,17 @@ def first_redex(term, start):
     return None
 
 
-def redex_at(term, place):
-    """Return the index of the redex at a place. Raise NoRedex."""
+def index_at(term, place):
+    """Return the index of a node at which there may be a redex. Raise NoRedex."""
     try:
-        at = start_of(term, place)
+        return start_of(term, place)
     except NoPlace:
         raise NoRedex("the string is no place of the term") from None
+
+
+def redex_at(term, place):
+    """Return the index of the redex at a place. Raise NoRedex."""
+    at = index_at(term, place)
     if not is_redex(term, at):
         raise NoRedex("the place is no redex of the term")
     return at

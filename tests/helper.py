@@ -209,6 +209,17 @@ def random_settled(source, size):
     return shrunk(random_normal(source, size))
 
 
+def random_crowd(source, size):
+    """Return closed fully normal trees, at most 12 and sometimes none or all equal."""
+    trees = [random_settled(source, size) for _ in range(source.randint(2, 12))]
+    if source.random() < 0.7:
+        # Terms that differ only inside: put into one term, at one place.
+        around = random_settled(source, size)
+        place, _ = source.choice(parts(around))
+        trees = [shrunk(with_part(around, place, tree)) for tree in trees]
+    return [tree for tree in trees if not redexes_of(tree)]
+
+
 def settled_trees(size):
     """Return all closed fully normal trees up to a size."""
     return [

@@ -230,13 +230,7 @@ class Separate(unittest.TestCase):
         source = random.Random(95)
         lengths, group_counts = [], []
         for _ in range(400):
-            trees = [helper.random_settled(source, 20) for _ in range(source.randint(2, 12))]
-            if source.random() < 0.7:
-                # Terms that differ only inside: put into one term, at one place.
-                around = helper.random_settled(source, 20)
-                place, _ = source.choice(helper.parts(around))
-                trees = [helper.shrunk(helper.with_part(around, place, tree)) for tree in trees]
-            trees = [tree for tree in trees if not helper.redexes_of(tree)]
+            trees = helper.random_crowd(source, 20)
             if len(trees) > 1 and len(set(trees)) > 1:
                 _, groups = self.check(trees)
                 lengths.append(len(helper.spots(trees)))

@@ -255,6 +255,17 @@ class Known(unittest.TestCase):
         term = ("app",) * 99 + (1,) + OMEGA * 99
         self.assertEqual(known(term), ("app",) * 99 + (1,) + ("?",) * 99)
 
+    def test_terms_somewhat_beyond_the_limits(self):
+        # By point 3 only the result counts.
+        for size, fits in ((1000, True), (1001, False)):
+            inner = helper.lam_chain(size)
+            if fits:
+                self.assertEqual((known(inner), head(("app", 3) + inner)), (inner, (0, 3, [inner])))
+            else:
+                self.assertRaises(TooLarge, known, inner)
+                self.assertRaises(TooLarge, head, ("app", 3) + inner)
+        self.assertEqual(known(("app", 3) + OMEGA[:1] + helper.lam_chain(1001) + (4,)), ("app", 3, "?"))
+
     def test_it_grows_along_roads(self):
         source = random.Random(83)
         grown = 0

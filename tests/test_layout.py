@@ -46,6 +46,29 @@ INTERFACE = {
         "projection": ["index", "count"], "tupler": ["count"], "applied": ["term", "arguments"],
         "separate": ["crowd"], "tell": ["first", "second"], "choose": ["terms"],
     },
+    "kinds": {
+        "is_kind": ["value"], "renamed": ["kinds"], "is_instance": ["general", "special"],
+        "joined": ["first", "second"], "principal": ["term"], "has_kinds": ["term", "kinds"],
+    },
+    "data": {
+        "number": ["value"], "value_of": ["term"], "list_of": ["terms"], "items_of": ["term"],
+        "names": [], "named": ["name"], "run": ["name", "numbers", "steps"],
+    },
+    "combinators": {
+        "is_combination": ["value"], "abstracted": ["combination"], "combination_of": ["term"],
+        "term_of": ["combination"], "value_put": ["combination", "value"],
+        "combination_redexes": ["combination"], "combination_step": ["combination", "place"],
+        "combination_normal": ["combination", "steps"],
+    },
+    "claims": {
+        "is_claim": ["value"], "is_shown": ["claim"], "claim_text": ["claim"], "read_claim": ["text"],
+    },
+}
+
+LIMITS = {
+    "terms": {"MOST_NODES": 1000, "MOST_VARIABLE": 1000000}, "meeting": {"MOST_SHORT": 12},
+    "order": {"MOST_ROAD": 200}, "looks": {"MOST_CROWD": 12}, "apart": {"MOST_ARGUMENTS": 400},
+    "data": {"MOST_NUMBER": 400},
 }
 
 
@@ -58,8 +81,31 @@ class Interface(unittest.TestCase):
                 self.assertEqual(function.__module__, f"lydite.{file}")
                 self.assertEqual(list(inspect.signature(function).parameters), arguments)
 
+    def test_limits(self):
+        for file, limits in LIMITS.items():
+            module = importlib.import_module(f"lydite.{file}")
+            for name, value in limits.items():
+                self.assertEqual(getattr(module, name), value)
+
 
 class Files(unittest.TestCase):
+    def test_nothing_from_outside_the_package(self):
+        # So there is no clock, no random source, no file and no network.
+        barred = {"open", "input", "print", "eval", "exec", "compile", "globals", "vars", "id", "hash"}
+        for path in PACKAGE.rglob("*.py"):
+            for node in ast.walk(ast.parse(path.read_text())):
+                self.assertNotIsInstance(node, ast.Import)
+                self.assertNotIsInstance(node, ast.Global)
+                if isinstance(node, ast.ImportFrom):
+                    self.assertTrue(node.module.startswith("lydite."), path)
+                    names = {alias.name for alias in node.names}
+                    module = importlib.import_module(node.module)
+                    for name in names:
+                        value = getattr(module, name)
+                        self.assertEqual(getattr(value, "__module__", node.module), node.module)
+                if isinstance(node, ast.Name):
+                    self.assertNotIn(node.id, barred)
+
     def test_the_package_holds_only_python_files(self):
         for path in PACKAGE.rglob("*"):
             if "__pycache__" not in path.parts:

@@ -174,13 +174,7 @@ class Turns(unittest.TestCase):
         source = random.Random(91)
         longest = 0
         for _ in range(300):
-            trees = [helper.random_settled(source, 30) for _ in range(source.randint(2, 12))]
-            if source.random() < 0.7:
-                # Terms that differ only inside: put into one term, at one place.
-                around = helper.random_settled(source, 25)
-                place, inner = source.choice(helper.parts(around))
-                trees = [helper.shrunk(helper.with_part(around, place, tree)) for tree in trees]
-            trees = [tree for tree in trees if not helper.redexes_of(tree)]
+            trees = helper.random_crowd(source, 28)
             crowd = [helper.flat(tree) for tree in trees]
             if len(crowd) > 1 and len(set(crowd)) > 1:
                 before = list(crowd)

@@ -373,6 +373,21 @@ class FullyNormal(unittest.TestCase):
 
 
 class Together(unittest.TestCase):
+    def test_terms_somewhat_beyond_the_limits(self):
+        # By point 3 only the result counts.
+        for size, fits in ((1000, True), (1001, False)):
+            inner = helper.lam_chain(size)
+            term = ("lam", "app") + inner + (0,)
+            self.assertEqual(needless(term), [""])
+            if fits:
+                self.assertEqual((remove(term, ""), shrink(term)), (inner, (inner, 1)))
+                self.assertEqual((follow_mixed(inner, []), shrink(inner), fully_normal(inner, 0)), (inner, (inner, 0), inner))
+            else:
+                self.assertRaises(TooLarge, remove, term, "")
+                self.assertRaises(TooLarge, shrink, term)
+                self.assertRaises(TooLarge, follow_mixed, inner, [])
+                self.assertRaises(TooLarge, shrink, inner)
+
     def test_a_removal_and_a_step_go_together(self):
         # Where both are possible, they lead to terms with the same fully normal term.
         for tree in SMALL:
